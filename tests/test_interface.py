@@ -1,0 +1,36 @@
+"""The interface: names, arguments, and the file in which each is defined."""
+
+import importlib
+import inspect
+import unittest
+
+FUNCTIONS = {
+    "lots": {
+        "holds": ["lot", "number"], "missing": ["lot"], "is_within": ["lot", "thing"], "common": ["lot", "other"],
+        "around": ["lot", "other"], "told_lot": ["raw"],
+    },
+    "kinds": {"is_kind": ["thing"], "lefts": ["kind"], "end": ["kind"], "built": ["lefts", "end"]},
+}
+CLASSES = {"lots": {"Lot": ["word", "makers"], "RawLot": ["heads", "rounds"]}}
+
+
+class InterfaceTest(unittest.TestCase):
+
+    def test_each_stands_in_its_file(self):
+        for told in (FUNCTIONS, CLASSES):
+            for file, rows in told.items():
+                module = importlib.import_module("usecounts." + file)
+                for name, arguments in rows.items():
+                    found = getattr(module, name)
+                    self.assertEqual(found.__module__, "usecounts." + file)
+                    self.assertEqual(list(inspect.signature(found).parameters), arguments)
+
+    def test_classes_have_their_own_equality(self):
+        for file, rows in CLASSES.items():
+            module = importlib.import_module("usecounts." + file)
+            for name in rows:
+                self.assertIn("__eq__", vars(getattr(module, name)))
+
+
+if __name__ == "__main__":
+    unittest.main()

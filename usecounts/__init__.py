@@ -1,0 +1,1 @@
+"""Usecounts: programs that use what they are handed a told number of times."""
