@@ -7,6 +7,7 @@ Each has an __init__ of its own, so that it is made with just its fields.
 class CountsError(ValueError):
     """Anything that the package refuses."""
 
+
 class BadLot(CountsError):
     """A part of what a lot or a raw lot was made with is not right."""
 
