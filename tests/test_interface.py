@@ -9,9 +9,23 @@ FUNCTIONS = {
         "holds": ["lot", "number"], "missing": ["lot"], "is_within": ["lot", "thing"], "common": ["lot", "other"],
         "around": ["lot", "other"], "told_lot": ["raw"],
     },
+    "breaking": {"breaking": ["raw"], "is_breaking": ["raw", "thing"]},
     "kinds": {"is_kind": ["thing"], "lefts": ["kind"], "end": ["kind"], "built": ["lefts", "end"]},
+    "programs": {
+        "is_program": ["thing"], "is_same": ["program", "thing"], "part": ["program", "place"], "standard": ["program"],
+        "open_names": ["program"], "counts": ["program"],
+    },
+    "judging": {"fault": ["book", "handed", "program"], "kind_of": ["book", "handed", "program"]},
+    "stepping": {
+        "steps": ["program"], "stepped": ["program", "place"], "counts_ahead": ["program", "place"],
+        "rest": ["book", "handed", "program"], "plain": ["book", "handed", "program"], "is_row": ["program", "other", "thing"],
+        "is_plain": ["book", "handed", "thing"],
+    },
 }
-CLASSES = {"lots": {"Lot": ["word", "makers"], "RawLot": ["heads", "rounds"]}}
+CLASSES = {
+    "lots": {"Lot": ["word", "makers"], "RawLot": ["heads", "rounds"]},
+    "judging": {"Book": ["lot", "tools"]},
+}
 
 
 class InterfaceTest(unittest.TestCase):
