@@ -2,11 +2,15 @@
 
 import unittest
 
+from usecounts.bags import things
 from usecounts.judging import Book, fault
 from usecounts.lots import Lot, RawLot, holds, missing, told_lot
+from usecounts.machine import Run, outcome
 from usecounts.stepping import stepped, steps
+from usecounts.texts import kind_text, program_text
 
 ODD, DUTY = Lot("more", (2,)), Lot("more", (1,))
+K = ((0, (0, 1)), (0, 1))
 
 
 class ExamplesTest(unittest.TestCase):
@@ -26,6 +30,22 @@ class ExamplesTest(unittest.TestCase):
     def test_e04(self):
         self.assertEqual(steps(("@", ("x", 0), "x", "y")), (0,))
         self.assertEqual(stepped(("@", ("x", 0), "x", "y"), 0), ("y",))
+
+    def test_e05(self):
+        book = Book(DUTY, (("two", (0, (0, 0))), ("one", 0)))
+        program = ("@", ("x", 0), "@", "@", "two", "x", "x", "one")
+        self.assertEqual(outcome(book, program), ("two", "one", "one"))
+        run = Run(book, program)
+        while run.outcome() is None:
+            run.move()
+        self.assertEqual((run.moves(), run.tokens()), (9, (2, 1, 1)))
+
+    def test_e06(self):
+        self.assertEqual(things(Book(ODD, ()), K), [0, (0, (0, 1))])
+
+    def test_e11(self):
+        self.assertEqual(program_text((("a", (0, 1)), ("b", 0), "@", "a", "b")), "[a:a > b] [b:a] (a b)")
+        self.assertEqual(kind_text(K), "(a > a > b) > a > b")
 
 
 if __name__ == "__main__":

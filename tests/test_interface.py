@@ -21,10 +21,19 @@ FUNCTIONS = {
         "rest": ["book", "handed", "program"], "plain": ["book", "handed", "program"], "is_row": ["program", "other", "thing"],
         "is_plain": ["book", "handed", "thing"],
     },
+    "machine": {"outcome": ["book", "program"], "worth": ["book", "program", "functions"]},
+    "bags": {"parts": ["book", "kind"], "things": ["book", "kind"], "is_made_by": ["book", "kind", "bag", "part", "thing"]},
+    "texts": {"kind_text": ["kind"], "program_text": ["program"]},
 }
 CLASSES = {
     "lots": {"Lot": ["word", "makers"], "RawLot": ["heads", "rounds"]},
     "judging": {"Book": ["lot", "tools"]},
+    "machine": {"Run": ["book", "program"]},
+}
+METHODS = {
+    "lots": {"Lot": ["__eq__"], "RawLot": ["__eq__"]},
+    "judging": {"Book": ["__eq__"]},
+    "machine": {"Run": ["move", "state", "moves", "tokens", "outcome", "back", "copy"]},
 }
 
 
@@ -39,11 +48,14 @@ class InterfaceTest(unittest.TestCase):
                     self.assertEqual(found.__module__, "usecounts." + file)
                     self.assertEqual(list(inspect.signature(found).parameters), arguments)
 
-    def test_classes_have_their_own_equality(self):
-        for file, rows in CLASSES.items():
+    def test_methods_stand_in_the_class_itself(self):
+        for file, rows in METHODS.items():
             module = importlib.import_module("usecounts." + file)
-            for name in rows:
-                self.assertIn("__eq__", vars(getattr(module, name)))
+            for name, methods in rows.items():
+                for method in methods:
+                    self.assertTrue(inspect.isfunction(vars(getattr(module, name))[method]), (name, method))
+                    arguments = list(inspect.signature(vars(getattr(module, name))[method]).parameters)
+                    self.assertEqual(arguments, ["self", "other"] if method == "__eq__" else ["self"])
 
 
 if __name__ == "__main__":
