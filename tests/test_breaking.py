@@ -109,10 +109,12 @@ class IsBreakingTest(unittest.TestCase):
         program = (("y", 0),) + self.long
         self.assertIs(is_breaking(self.raw, (self.handed[:1], program, 1)), True)
         self.assertIs(is_breaking(self.raw, (self.handed[:1], program, 0)), False)
-        # A take inside of what is handed stays as it is, and one in the body too.
-        program = ("@", ("x", 0), "@", "@", "g", "x", "@", ("v", 0), "@", "@", "g", "x", "v", "w", "@", ("u", 0), "@", "@", "g", "u", "u", "y")
-        handed = (("g", (0, (0, 0))), ("y", 0), ("w", 0))
-        self.assertIs(is_breaking(self.raw, (handed, program, 0)), shows(self.raw, (handed, program, 0)))
+        # Takes inside of what is handed, and in the body, are told as often as ahead.
+        inside = ("@", ("v", 0), "@", "@", "k", "v", "v", "y")
+        program = ("@", ("x", 0), "@", "@", "g", "x", "@", ("u", 0), "u", "x") + inside
+        handed = (("g", (0, (0, 0))), ("k", (0, (0, 0))), ("y", 0))
+        self.assertIsNone(fault(Book(self.raw, ()), handed, program))
+        self.assertIs(is_breaking(self.raw, (handed, program, 0)), False)
 
     def test_taken_nowhere(self):
         raw = RawLot((True, True, False, True), (False,))

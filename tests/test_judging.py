@@ -1,5 +1,6 @@
 """2.3: books, and what they tell of programs."""
 
+import random
 import unittest
 
 from usecounts.errors import BadBook, CountsError, Faulty, NoHanded, NoProgram
@@ -143,6 +144,7 @@ class FaultTest(unittest.TestCase):
         self.assertEqual(fault(Book(DUTY, ()), (("z", 0),) + handed, program), ("handed", "z", 0))
         self.assertIsNone(fault(Book(LOAN, ()), (("z", 0),) + handed, program))
         self.assertIsNone(fault(Book(RawLot((True, True), (False,)), ()), (("z", 0),) + handed, program))
+        self.assertIsNone(fault(Book(RawLot((True, True, False), (False,)), ()), (("z", 0),) + handed, program))
         self.assertEqual(fault(Book(RawLot((False,), (True,)), ()), handed + (("z", 3), ("w", 4)), program), ("handed", "z", 0))
         # The first of handed, not the first that stands.
         self.assertEqual(fault(Book(ODD, ()), handed, ("@", "@", "f", "y", "y")), ("handed", "x", 0))
@@ -208,6 +210,84 @@ class FaultTest(unittest.TestCase):
                 self.assertEqual(fault(Book(lot, handed), (), program), ([row for row in wrong if not row or row[0] == "count"])[0])
                 many[wrong[0] and wrong[0][0]] = many.get(wrong[0] and wrong[0][0], 0) + 1
         self.assertEqual(set(many), {None, "handed", "count"})
+
+
+def any_program(chance, words):
+    """The words of a program of any kind or none."""
+    if words <= 1:
+        return (chance.choice(("a", "b", "x", "y")),)
+    if chance.random() < 0.4:
+        return ((chance.choice(("a", "b", "x")), chance.choice((0, 1, (0, 0), (0, 1), (1, 0), ((0, 0), 0)))),) + any_program(chance, words - 1)
+    first = chance.randrange(1, words)
+    return ("@",) + any_program(chance, first) + any_program(chance, words - 1 - first)
+
+
+class SlowJudge:
+    """The faults of a program, each told by its words in 2.3."""
+
+    def __init__(self, program, named):
+        self.program, self.named = program, named
+
+    def end(self, place):
+        if self.program[place] == "@":
+            return self.end(self.end(place + 1))
+        return self.end(place + 1) if isinstance(self.program[place], tuple) else place + 1
+
+    def taker(self, place):
+        takes = [at for at in range(place) if isinstance(self.program[at], tuple) and place < self.end(at)]
+        return ([None] + [at for at in takes if self.program[at][0] == self.program[place]])[-1]
+
+    def names(self):
+        return [place for place, word in enumerate(self.program) if isinstance(word, str) and word != "@"]
+
+    def kind(self, place):
+        word = self.program[place]
+        if word == "@":
+            user, handed = self.kind(place + 1), self.kind(self.end(place + 1))
+            fits = user is not None and handed is not None and isinstance(user, tuple) and user[0] == handed
+            return user[1] if fits else None
+        if isinstance(word, tuple):
+            body = self.kind(place + 1)
+            return None if body is None else (word[1], body)
+        return self.named[word] if self.taker(place) is None else self.program[self.taker(place)][1]
+
+    def fault(self, lot, handed):
+        strangers = [place for place in self.names() if self.taker(place) is None and self.program[place] not in self.named]
+        if strangers:
+            return ("open", strangers[0])
+        uses = [place for place, word in enumerate(self.program) if word == "@"]
+        wrong = [place for place in uses if self.kind(place) is None]
+        wrong = [place for place in wrong if self.kind(place + 1) is not None and self.kind(self.end(place + 1)) is not None]
+        if wrong:
+            return ("kind", wrong[0])
+        for name, _ in handed:
+            times = len([place for place in self.names() if self.taker(place) is None and self.program[place] == name])
+            if not lot.has(times):
+                return ("handed", name, times)
+        for at, word in enumerate(self.program):
+            times = len([place for place in self.names() if self.taker(place) == at])
+            if isinstance(word, tuple) and not lot.has(times):
+                return ("count", at, times)
+        return None
+
+
+class SlowJudgeTest(unittest.TestCase):
+
+    def test_any_programs(self):
+        chance = random.Random(9)
+        told = {}
+        lots = [ONCE, LOAN, FREE, ODD, DUTY, RawLot((False, True, True), (False,)), RawLot((True, True, False), (True, False))]
+        kinds = (0, 1, (0, 1), (0, 0), (1, (0, 0)), ((0, 0), 0))
+        for _ in range(6000):
+            program = any_program(chance, chance.randrange(1, 12))
+            tools = tuple((name, chance.choice(kinds)) for name in "ab")
+            handed = tuple((name, chance.choice(kinds)) for name in chance.choice(("x", "xy", "yx", "y")))
+            lot = chance.choice(lots)
+            found = fault(Book(lot, tools), handed, program)
+            self.assertEqual(found, SlowJudge(program, dict(tools + handed)).fault(lot, handed), program)
+            told[found and found[0]] = told.get(found and found[0], 0) + 1
+        self.assertGreater(min(told.values()), 10)
+        self.assertEqual(len(told), 5)
 
 
 class ArgumentsTest(unittest.TestCase):

@@ -1,5 +1,6 @@
 """2.2, and counts of 2.3: programs."""
 
+import itertools
 import unittest
 
 from usecounts import lots, stepping
@@ -43,6 +44,15 @@ class IsProgramTest(unittest.TestCase):
     def test_what_is_none(self):
         for thing in no_programs():
             self.assertIs(is_program(thing), False, thing)
+
+    def test_all_short_rows_of_words(self):
+        shapes = {1: {("a",)}}
+        for many in range(2, 7):
+            shapes[many] = {(("x", 0),) + body for body in shapes[many - 1]}
+            for first in range(1, many - 1):
+                shapes[many] |= {("@",) + user + handed for user in shapes[first] for handed in shapes[many - 1 - first]}
+            for row in itertools.product(("a", "@", ("x", 0)), repeat=many):
+                self.assertIs(is_program(row), row in shapes[many], row)
 
     def test_to_400_words(self):
         for many, told in ((398, True), (399, True), (400, False), (4999, False)):

@@ -254,6 +254,13 @@ class RestTest(unittest.TestCase):
             else:
                 self.assertEqual(len(rest(FREE, handed, program)), told)
 
+    def test_more_than_5000_words_at_first(self):
+        handed = (("f", (0, 0)), ("y", 0))
+        self.assertEqual(len(rest(FREE, handed, ("@", "f") * 2499 + ("y",))), 4999)
+        self.assertEqual(len(rest(FREE, handed, (("x", 0),) + ("@", "f") * 2499 + ("y",))), 5000)
+        self.assertRaises(TooMany, rest, FREE, handed, ("@", "f") * 2500 + ("y",))
+        self.assertRaises(TooMany, rest, FREE, handed, ("@", ("x", 0), "y") + ("@", "f") * 2500 + ("y",))
+
     def test_many_steps_within_one_another(self):
         program = ("@", ("x", 0)) * 130 + ("x",) + ("y",) * 130
         self.assertEqual(rest(FREE, (("y", 0),), program), ("y",))
@@ -338,6 +345,11 @@ class IsRowTest(unittest.TestCase):
             program = lost + (("w", 0),) * (many + 46) + grown(50, 97)
             self.assertIs(is_row(program, ("y",), (0,)), True)
             self.assertIs(is_row(program, ("y",), (many + 49, 0)), told)
+        for many, told in ((2497, True), (2498, False)):
+            program = ("@", ("x", 0), "y") + (("x", 0),) + ("@", "f") * many + ("y",)
+            self.assertIs(is_row(program, ("y",), (0,)), len(program) <= 5000)
+            self.assertIs(is_row(program[3:], program[3:], ()), True)
+            self.assertIs(len(program) <= 5000, told)
 
     def test_great_programs(self):
         great = stepped(grown(50, 97), 0)

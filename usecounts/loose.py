@@ -15,14 +15,15 @@ class Loose:
 
     def __init__(self, shape, table):
         self.table = table
-        self.words = []
+        words = []
         for place, word in enumerate(shape.words):
             if is_take(word):
-                self.words.append((place, table.number(word[1])))
+                words.append((place, table.number(word[1])))
             elif shape.takers[place] is not None:
-                self.words.append(shape.takers[place])
+                words.append(shape.takers[place])
             else:
-                self.words.append(word)
+                words.append(word)
+        self.words = words
         self._next = len(self.words)
 
     def new_number(self):
