@@ -1,7 +1,9 @@
 """Objects of many kinds, for tests of what is handed in wrongly."""
 
 import usecounts.errors
+from usecounts.judging import Book
 from usecounts.lots import Lot, RawLot
+from usecounts.machine import Run
 
 
 def nested(deep, wrap, core):
@@ -20,6 +22,7 @@ def odd_things():
         [], [1], ["once"], ring, (), ("once",), (None,), ((),), ([],), {}, {"once": 1}, {0: (0, 0)}, range(3),
         slice(1, 2), object(), usecounts.errors, usecounts.errors.NoKind(), usecounts.errors.BadLot("word"),
         Lot("once", ()), Lot("more", (2, 3)), RawLot((), (True,)), ValueError("x"),
+        Book(Lot("loan", ()), (("odd", 0),)), Run(Book(Lot("free", ()), (("one", 0),)), ("one",)), Book, Run, (Lot("once", ()), ()),
         nested(40, lambda core: [core], 0), nested(40, lambda core: (core,), 0), nested(40, lambda core: {0: core}, 0),
         nested(40, lambda core: (0, core), 0), nested(40, lambda core: (core, 0), "a"), nested(30, lambda core: [core], ()),
         [0] * 10000, (0,) * 10000, ("a",) * 10000, ((),) * 9999, {at: at for at in range(5000)},
