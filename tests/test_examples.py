@@ -3,9 +3,12 @@
 import unittest
 
 from usecounts.bags import things
+from usecounts.finding import found
+from usecounts.houses import House, is_against, stands_with
 from usecounts.judging import Book, fault
 from usecounts.lots import Lot, RawLot, holds, missing, told_lot
 from usecounts.machine import Run, outcome
+from usecounts.plains import many_plain
 from usecounts.stepping import stepped, steps
 from usecounts.texts import kind_text, program_text
 
@@ -42,6 +45,17 @@ class ExamplesTest(unittest.TestCase):
 
     def test_e06(self):
         self.assertEqual(things(Book(ODD, ()), K), [0, (0, (0, 1))])
+
+    def test_e07(self):
+        house = House(ODD, ((0, 1), (1, 0)), {0: (1,), 1: (0,)})
+        self.assertEqual(stands_with(house, (0, (0, 1))), (0,))
+        self.assertIs(is_against(Book(ODD, ()), K, house), True)
+
+    def test_e08(self):
+        self.assertEqual(found(Book(DUTY, ()), K), ("made", (("a", (0, (0, 1))), ("b", 0), "@", "@", "a", "b", "b")))
+
+    def test_e10(self):
+        self.assertEqual(many_plain(Book(Lot("free", ()), ()), (0, (0, 0)), 1), 2)
 
     def test_e11(self):
         self.assertEqual(program_text((("a", (0, 1)), ("b", 0), "@", "a", "b")), "[a:a > b] [b:a] (a b)")

@@ -23,16 +23,24 @@ FUNCTIONS = {
     },
     "machine": {"outcome": ["book", "program"], "worth": ["book", "program", "functions"]},
     "bags": {"parts": ["book", "kind"], "things": ["book", "kind"], "is_made_by": ["book", "kind", "bag", "part", "thing"]},
+    "houses": {"stands_with": ["house", "kind"], "is_against": ["book", "kind", "thing"], "lean": ["house"]},
+    "tables": {"bag_house": ["book", "kind", "size"]},
+    "finding": {
+        "found": ["book", "kind"], "is_paper": ["book", "kind", "thing"], "needless": ["book"], "is_equal_help": ["book", "other"],
+    },
+    "plains": {"many_plain": ["book", "kind", "names"], "plain_programs": ["book", "kind", "names"]},
     "texts": {"kind_text": ["kind"], "program_text": ["program"]},
 }
 CLASSES = {
     "lots": {"Lot": ["word", "makers"], "RawLot": ["heads", "rounds"]},
     "judging": {"Book": ["lot", "tools"]},
     "machine": {"Run": ["book", "program"]},
+    "houses": {"House": ["lot", "joining", "letters"]},
 }
 METHODS = {
     "lots": {"Lot": ["__eq__"], "RawLot": ["__eq__"]},
     "judging": {"Book": ["__eq__"]},
+    "houses": {"House": ["__eq__"]},
     "machine": {"Run": ["move", "state", "moves", "tokens", "outcome", "back", "copy"]},
 }
 

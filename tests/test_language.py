@@ -11,15 +11,16 @@ FOLDER = pathlib.Path(__file__).resolve().parent.parent / "usecounts"
 FILES = sorted(FOLDER.rglob("*.py"))
 BUILTINS = {
     "len", "range", "enumerate", "zip", "min", "max", "sum", "abs", "sorted", "reversed", "int", "str", "bool", "bytes", "list",
-    "tuple", "dict", "set", "isinstance", "ord", "repr", "any", "all", "divmod", "ValueError", "KeyError", "TypeError",
+    "tuple", "dict", "set", "isinstance", "ord", "repr", "any", "all", "divmod", "ValueError", "KeyError", "TypeError", "property",
 }
+OWN_ERRORS = {"CountsError", "BadText"}
 IMPORTED = {
     "math": {"gcd", "lcm", "isqrt", "comb", "perm", "factorial"}, "heapq": {"heappush", "heappop", "heapify"},
     "itertools": {"product", "combinations", "permutations", "chain", "accumulate", "pairwise", "islice", "zip_longest"},
     "collections": {"defaultdict"},
 }
 FORBIDDEN = (
-    ast.Global, ast.AsyncFunctionDef, ast.AsyncFor, ast.AsyncWith, ast.Await, ast.Import, ast.Div, ast.AnnAssign, ast.Lambda, ast.Try,
+    ast.Global, ast.AsyncFunctionDef, ast.AsyncFor, ast.AsyncWith, ast.Await, ast.Import, ast.Div, ast.AnnAssign, ast.Lambda, ast.TryStar,
     ast.With, ast.Match, ast.Yield, ast.YieldFrom, ast.GeneratorExp, ast.JoinedStr, ast.NamedExpr, ast.Delete, ast.Nonlocal,
 )
 BUILTIN_METHODS = {
@@ -85,6 +86,21 @@ class LanguageTest(unittest.TestCase):
                 for sign, right in zip(node.ops, node.comparators):
                     if isinstance(sign, (ast.Is, ast.IsNot)):
                         self.assertIsInstance(right, ast.Constant, (name, node.lineno))
+            if isinstance(node, ast.Try):
+                self.assertEqual(node.finalbody, [])
+                for handler in node.handlers:
+                    self.assertIn(handler.type.id, OWN_ERRORS, (name, node.lineno))
+
+    def test_properties_only_read(self):
+        properties = set()
+        for name, node in self.nodes():
+            if isinstance(node, ast.FunctionDef) and any(getattr(item, "id", None) == "property" for item in node.decorator_list):
+                properties.add(node.name)
+                self.assertEqual([type(inner) for inner in node.body], [ast.Expr, ast.Return], (name, node.name))
+        self.assertEqual(properties, {"letters"})
+        for name, node in self.nodes():
+            if isinstance(node, ast.Attribute) and node.attr in properties:
+                self.assertIsInstance(node.ctx, ast.Load, (name, node.lineno))
 
     def test_imports(self):
         reached = {}

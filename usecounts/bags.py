@@ -5,24 +5,24 @@ from usecounts.errors import NoBag, NoPart
 from usecounts.judging import is_handed, judged
 from usecounts.kinds import is_kind_of_any_size
 from usecounts.shapes import is_program_of_any_size
-from usecounts.tasks import Task
+from usecounts.tasks import PartedTask
 
 
 def parts(book, kind):
     """The list of all kinds that stand in the kind or in those of the tools, ascending by their texts."""
-    task = Task(book, kind)
+    task = PartedTask(book, kind)
     return [task.table.kind(number) for number in task.parts]
 
 
 def things(book, kind):
     """The list of the parts that stand as a left."""
-    task = Task(book, kind)
+    task = PartedTask(book, kind)
     return [task.table.kind(number) for number in task.things]
 
 
 def is_made_by(book, kind, bag, part, thing):
     """Whether a thing is a pair (handed, program) that shows that the bag makes the part."""
-    task = Task(book, kind)
+    task = PartedTask(book, kind)
     if not _is_bag(task, bag):
         raise NoBag()
     if not is_kind_of_any_size(part) or task.table.number(part) not in task.parts:

@@ -70,6 +70,16 @@ class KindTable:
         """The number of the right of the pair with this number."""
         return self._pairs[number - FIRST_PAIR][1]
 
+    def pair_numbers(self):
+        """The ascending list of the numbers of all pairs so far."""
+        return list(range(FIRST_PAIR, FIRST_PAIR + len(self._pairs)))
+
+    def end(self, number):
+        """The letter at the end of the kind with this number."""
+        while self.is_pair_number(number):
+            number = self.right(number)
+        return number
+
     def lefts(self, number):
         """The list of the numbers of all lefts of the kind with this number."""
         found = []
