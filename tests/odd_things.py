@@ -3,6 +3,7 @@
 import usecounts.errors
 from usecounts.houses import House
 from usecounts.judging import Book
+from usecounts.library import Library
 from usecounts.lots import Lot, RawLot
 from usecounts.machine import Run
 
@@ -24,7 +25,7 @@ def odd_things():
         slice(1, 2), object(), usecounts.errors, usecounts.errors.NoKind(), usecounts.errors.BadLot("word"),
         Lot("once", ()), Lot("more", (2, 3)), RawLot((), (True,)), ValueError("x"),
         Book(Lot("loan", ()), (("odd", 0),)), Run(Book(Lot("free", ()), (("one", 0),)), ("one",)), Book, Run, (Lot("once", ()), ()),
-        House(Lot("free", ()), ((0, 1), (1, 0)), {0: (0, 1)}), House, ("made", ("a",)), ("not", None),
+        House(Lot("free", ()), ((0, 1), (1, 0)), {0: (0, 1)}), House, Library(Lot("more", (2,))), Library, ("made", ("a",)), ("not", None),
         nested(40, lambda core: [core], 0), nested(40, lambda core: (core,), 0), nested(40, lambda core: {0: core}, 0),
         nested(40, lambda core: (0, core), 0), nested(40, lambda core: (core, 0), "a"), nested(30, lambda core: [core], ()),
         [0] * 10000, (0,) * 10000, ("a",) * 10000, ((),) * 9999, {at: at for at in range(5000)},

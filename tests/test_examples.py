@@ -6,8 +6,10 @@ from usecounts.bags import things
 from usecounts.finding import found
 from usecounts.houses import House, is_against, stands_with
 from usecounts.judging import Book, fault
+from usecounts.library import Library
 from usecounts.lots import Lot, RawLot, holds, missing, told_lot
 from usecounts.machine import Run, outcome
+from usecounts.numbers import counter, parting
 from usecounts.plains import many_plain
 from usecounts.stepping import stepped, steps
 from usecounts.texts import kind_text, program_text
@@ -54,12 +56,24 @@ class ExamplesTest(unittest.TestCase):
     def test_e08(self):
         self.assertEqual(found(Book(DUTY, ()), K), ("made", (("a", (0, (0, 1))), ("b", 0), "@", "@", "a", "b", "b")))
 
+    def test_e09(self):
+        self.assertEqual(parting(DUTY, ODD), 2)
+        self.assertEqual(counter(1), (("a", (0, 1)), ("b", 0), "@", "a", "b"))
+
     def test_e10(self):
         self.assertEqual(many_plain(Book(Lot("free", ()), ()), (0, (0, 0)), 1), 2)
 
     def test_e11(self):
-        self.assertEqual(program_text((("a", (0, 1)), ("b", 0), "@", "a", "b")), "[a:a > b] [b:a] (a b)")
+        self.assertEqual(program_text(counter(1)), "[a:a > b] [b:a] (a b)")
         self.assertEqual(kind_text(K), "(a > a > b) > a > b")
+
+    def test_e12(self):
+        library = Library(DUTY)
+        library.tool("one", 0)
+        library.define("pair", ("@", "@", "two", "one", "one"))
+        library.tool("two", (0, (0, 0)))
+        self.assertEqual((library.kind("pair"), library.changed(), library.judged()), (0, ["pair", "two"], ["pair"]))
+        self.assertEqual(library.outcome("pair"), ("two", "one", "one"))
 
 
 if __name__ == "__main__":

@@ -28,6 +28,9 @@ FUNCTIONS = {
     "finding": {
         "found": ["book", "kind"], "is_paper": ["book", "kind", "thing"], "needless": ["book"], "is_equal_help": ["book", "other"],
     },
+    "numbers": {"counter": ["n"], "parting": ["lot", "other"]},
+    "reading": {"read_kind": ["text"], "read_program": ["text"]},
+    "journals": {"recovered": ["journal"]},
     "plains": {"many_plain": ["book", "kind", "names"], "plain_programs": ["book", "kind", "names"]},
     "texts": {"kind_text": ["kind"], "program_text": ["program"]},
 }
@@ -36,12 +39,22 @@ CLASSES = {
     "judging": {"Book": ["lot", "tools"]},
     "machine": {"Run": ["book", "program"]},
     "houses": {"House": ["lot", "joining", "letters"]},
+    "library": {"Library": ["lot"]},
 }
 METHODS = {
     "lots": {"Lot": ["__eq__"], "RawLot": ["__eq__"]},
     "judging": {"Book": ["__eq__"]},
     "houses": {"House": ["__eq__"]},
     "machine": {"Run": ["move", "state", "moves", "tokens", "outcome", "back", "copy"]},
+    "library": {"Library": [
+        "tool", "define", "wish", "drop", "relot", "names", "entry", "kind", "why", "uses", "users", "changed", "judged", "verdict",
+        "fill", "linked", "outcome", "undo", "redo", "depth", "copy", "journal",
+    ]},
+}
+ARGUMENTS = {
+    "__eq__": ["other"], "tool": ["name", "kind"], "define": ["name", "program"], "wish": ["name", "kind"], "relot": ["lot"],
+    ("Library", "outcome"): ["name"],
+    **{name: ["name"] for name in ("drop", "entry", "kind", "why", "uses", "users", "verdict", "fill", "linked")},
 }
 
 
@@ -63,7 +76,8 @@ class InterfaceTest(unittest.TestCase):
                 for method in methods:
                     self.assertTrue(inspect.isfunction(vars(getattr(module, name))[method]), (name, method))
                     arguments = list(inspect.signature(vars(getattr(module, name))[method]).parameters)
-                    self.assertEqual(arguments, ["self", "other"] if method == "__eq__" else ["self"])
+                    wanted = ARGUMENTS.get((name, method), ARGUMENTS.get(method, []))
+                    self.assertEqual(arguments, ["self"] + wanted, (name, method))
 
 
 if __name__ == "__main__":

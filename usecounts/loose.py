@@ -66,6 +66,16 @@ class Loose:
                 found.append(numbers.get(word, word))
         return found
 
+    def put(self, named):
+        """Put loose words, told by a dict, in the places of open names that are its keys."""
+        found = []
+        for word in self.words:
+            if isinstance(word, str) and word in named:
+                found.extend(self._anew(named[word]))
+            else:
+                found.append(word)
+        self.words = found
+
     def told(self):
         """The program, standard."""
         numbers = [word[0] for word in self.words if is_take(word)]

@@ -89,6 +89,11 @@ def _more(sums):
     return lot
 
 
+def lot_of_makers(makers):
+    """The lot "more" with these makers, of which there may be more and greater ones than a call of Lot lets."""
+    return _more(Sums(makers))
+
+
 def holds(lot, number):
     """Whether the lot holds a number to 10000."""
     if not is_integer_within(0, GREATEST_NUMBER, number):

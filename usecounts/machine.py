@@ -53,9 +53,14 @@ def _led(run):
 def _flat_shape(book, program):
     """The shape of a program that is right and flat: NoProgram, Faulty, NotFlat."""
     found = right(book, (), program)
-    if not all([is_letter(left) for _, kind in book.tools for left in lefts(kind)]) or not is_letter(found.kind()):
+    if not is_flat(book.tools, found.kind()):
         raise NotFlat()
     return found.shape
+
+
+def is_flat(tools, kind):
+    """Whether a kind is a letter, and all lefts of the kinds of tools are."""
+    return is_letter(kind) and all([is_letter(left) for _, told in tools for left in lefts(told)])
 
 
 class Run:
