@@ -175,6 +175,7 @@ class LanguageTest(unittest.TestCase):
                 self.assertEqual(attributes & (set(methods) | ATTRIBUTES_NOWHERE), set(), (name, node.name))
                 own |= set(methods)
                 stored |= attributes
+        self.assertEqual(own & stored, set())
         for name, node in self.nodes():
             if isinstance(node, ast.Call) and isinstance(node.func, ast.Attribute):
                 self.assertIn(node.func.attr, own | BUILTIN_METHODS, (name, node.lineno))

@@ -14,8 +14,8 @@ def counted_rows(task, size, most):
     units = {}
     for at, thing in enumerate(task.things):
         units[thing] = rows.index((0,) * at + (1,) + (0,) * (len(task.things) - at - 1))
-    has = BagTable(task, joining, units).has
-    return (joining, {part: tuple(sorted(has[part])) for part in task.parts if not task.table.is_pair_number(part)})
+    stands = BagTable(task, joining, units).stands
+    return (joining, {part: tuple(sorted(stands[part])) for part in task.parts if not task.table.is_pair_number(part)})
 
 
 def _step(lot):
@@ -64,14 +64,14 @@ def _counted(lot, size, step, number):
 class BagTable:
     """The least table of pairs of a stand and a part that it has.
 
-    has: the dict from parts to the dicts that have the stands with this part as keys.
+    stands: the dict from parts to the dicts that have the stands with this part as keys.
     """
 
     def __init__(self, task, joining, units):
         self._table = task.table
         self._joining = joining
         self._below = [stands_of(mask) for mask in falls(joining, task.lot)]
-        self.has = {part: {} for part in task.parts}
+        self.stands = {part: {} for part in task.parts}
         self._waiting = []
         # The pairs that have a part as their left, and as their right.
         self._lefts = {part: [] for part in task.parts}
@@ -94,8 +94,8 @@ class BagTable:
             self._follow(stand, part)
 
     def _add(self, stand, part):
-        if stand not in self.has[part]:
-            self.has[part][stand] = True
+        if stand not in self.stands[part]:
+            self.stands[part][stand] = True
             self._waiting.append((stand, part))
 
     def _follow(self, stand, part):
@@ -103,10 +103,10 @@ class BagTable:
         for other in self._below[stand]:
             self._add(other, part)
         if self._table.is_pair_number(part):
-            for other in list(self.has[self._table.left(part)]):
+            for other in list(self.stands[self._table.left(part)]):
                 self._add(self._joining[stand][other], self._table.right(part))
         for pair in self._lefts[part]:
-            for other in list(self.has[pair]):
+            for other in list(self.stands[pair]):
                 self._add(self._joining[other][stand], self._table.right(pair))
         for pair in self._rights[part]:
             for other in self._without[self._table.left(pair)][stand]:

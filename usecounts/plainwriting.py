@@ -28,7 +28,7 @@ class PlainWriting:
         self._plains.closed(names)
         if 0 not in self._plains.made[self._plains.wanted][names]:
             return []
-        return [self._told(words) for words in self._openings(self._plains.wanted, names, 0)]
+        return [self._program_of(words) for words in self._openings(self._plains.wanted, names, 0)]
 
     def _openings(self, number, names, bag):
         """The list of the words of openings of a kind, with names still to be taken as the bag tells."""
@@ -91,13 +91,13 @@ class PlainWriting:
             number = table.right(number)
             wider = []
             for words, lacking, outside in found:
-                for many, first in self._splits(left, number, lacking, outside):
+                for many, first in self._first_ways(left, number, lacking, outside):
                     for opening in self._openings(left, many, first):
                         wider.append((words + opening, lacking - many, outside - first))
             found = wider
         return [words for words, _, _ in found]
 
-    def _splits(self, left, right, names, bag):
+    def _first_ways(self, left, right, names, bag):
         """The pairs of how many names, and which bag, the first of some openings has."""
         ways = []
         for many in range(1, names + 1):
@@ -120,7 +120,7 @@ class PlainWriting:
             found = wider[:1] if self._is_for_one else wider
         return found
 
-    def _told(self, words):
+    def _program_of(self, words):
         """The program that these words tell."""
         takes = [place for place, word in enumerate(words) if isinstance(word, tuple)]
         barred = {word: True for word in words if isinstance(word, str)}
