@@ -231,7 +231,8 @@ class JournalsTest(unittest.TestCase):
                  "relot more 0", "relot more 01", "relot more 1 ", "relot more  1", "relot more 2 4", "relot more 3 2", "relot more 2 2", "relot more -1", "relot more 1.0",
                  "relot more 2 3 5", "relot more +2", "relot more 30001", "relot more 100000", "relot more 2 30001", "relot more one", "relot raw", "relot (2,)",
                  "relot More 1", "relot more 1_0", "relot more 4 6 9 13 30001", "fill x", "verdict x", "journal", "copy", "#", "define x y #1", "one", "relot more " + "9" * 6000,
-                 "relot more 2 " + "1" * 9000, "relot more " + "0" * 5000 + "1", "kind one", "undo\rundo"]
+                 "relot more 2 " + "1" * 9000, "relot more " + "0" * 5000 + "1", "kind one", "undo\rundo", "lot free", "relots free", "free free",
+                 "re lot free", "tool free free", "undo free", "redo x", "fill one"]
         for text in wrong:
             self.assertEqual(self.agree(journal + checked(text) + behind), len(journal), text)
             self.assertEqual(self.agree(checked(text) + journal), 0)

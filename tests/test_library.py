@@ -135,6 +135,28 @@ class AccountTest(unittest.TestCase):
             self.agree(library, slow)
         self.assertRaises(NothingDone, library.redo)
 
+    def test_copies_do_again_what_was_taken_back(self):
+        library = Library(FREE)
+        for name in ("a", "b", "c"):
+            library.tool(name, 0)
+        library.undo()
+        library.undo()
+        other = library.copy()
+        library.redo()
+        self.assertEqual((library.names(), other.names(), other.depth()), (["a", "b"], ["a"], 1))
+        other.redo()
+        other.redo()
+        self.assertRaises(NothingDone, other.redo)
+        self.assertEqual((library.names(), other.names()), (["a", "b"], ["a", "b", "c"]))
+        third = library.copy()
+        library.tool("z", 0)
+        third.redo()
+        self.assertEqual(third.names(), ["a", "b", "c"])
+        self.assertRaises(NothingDone, library.redo)
+        while other.depth():
+            other.undo()
+        self.assertEqual((library.names(), other.names()), (["a", "b", "z"], []))
+
     def test_copies_go_on_apart(self):
         for seed in range(8):
             chance = random.Random(200 + seed)
@@ -472,6 +494,21 @@ class WishesTest(unittest.TestCase):
         library.tool("one", 0)
         self.assertEqual(library.verdict("w")[0], "made")
 
+    def test_another_wish_in_its_place(self):
+        library = Library(FREE)
+        library.wish("w", (0, 0))
+        self.assertEqual(library.verdict("w"), ("made", (("a", 0), "a")))
+        library.wish("w", (1, 1))
+        self.assertEqual(library.verdict("w"), ("made", (("a", 1), "a")))
+        library.wish("w", 0)
+        self.assertEqual(library.verdict("w")[0], "not")
+        library.undo()
+        self.assertEqual(library.verdict("w"), ("made", (("a", 1), "a")))
+        library.drop("w")
+        self.assertRaises(Unknown, library.verdict, "w")
+        library.define("w", (("a", 1), "a"))
+        self.assertRaises(NoWish, library.verdict, "w")
+
     def test_verdicts_as_found_tells(self):
         chance = random.Random(31)
         for seed in range(12):
@@ -580,9 +617,11 @@ class LinkedTest(unittest.TestCase):
         library.tool("one", 0)
         library.define("d", ("@", "s") * (words // 2) + ("one",))
         for at in range(times):
-            name = "abcdefghijklmnopqrstuvwxyz"[at + 3]
-            library.define(name + "x", ("@", "@", "two") + ("d" if at == 0 else "abcdefghijklmnopqrstuvwxyz"[at + 2] + "x",) * 2)
-        return library, ("d" if times == 0 else "abcdefghijklmnopqrstuvwxyz"[times + 2] + "x")
+            library.define(self.numbered(at + 1), ("@", "@", "two") + (self.numbered(at),) * 2)
+        return library, self.numbered(times)
+
+    def numbered(self, at):
+        return "d" + "x" * (at // 10) + "abcdefghij"[at % 10] if at else "d"
 
     def test_just_5000_words(self):
         library, _ = self.doubled(0, 4999)
@@ -602,7 +641,7 @@ class LinkedTest(unittest.TestCase):
         self.assertEqual(len(library.linked(name)), 8 * 621 + 7 * 3)
         library, name = self.doubled(3, 623)
         self.assertRaises(TooMany, library.linked, name)
-        self.assertEqual(len(library.linked("ex")), 2 * (2 * 623 + 3) + 3)
+        self.assertEqual(len(library.linked(self.numbered(2))), 2 * (2 * 623 + 3) + 3)
 
     def test_very_many(self):
         library, name = self.doubled(20, 601)
@@ -671,6 +710,34 @@ class LinkedTest(unittest.TestCase):
         self.assertEqual(library.outcome("one"), ("one",))
         self.assertRaises(NotFlat, library.outcome, "two")
         self.assertRaises(NotFlat, library.outcome, "twice")
+
+    def test_outcomes_behind_edits_further_on(self):
+        library = Library(FREE)
+        library.tool("one", 0)
+        library.tool("two", 0)
+        for name, other in (("a", "b"), ("b", "c"), ("c", "d"), ("d", "one")):
+            library.define(name, (other,))
+        self.assertEqual(library.outcome("a"), ("one",))
+        library.define("d", ("two",))
+        self.assertEqual([library.outcome(name) for name in "abcd"], [("two",)] * 4)
+        library.undo()
+        self.assertEqual([library.outcome(name) for name in "abcd"], [("one",)] * 4)
+        library.define("c", ("two",))
+        self.assertEqual([library.outcome(name) for name in "abcd"], [("two",)] * 3 + [("one",)])
+        library.drop("d")
+        self.assertEqual([library.outcome(name) for name in "abc"], [("two",)] * 3)
+        library.wish("c", 0)
+        self.assertRaises(NotWhole, library.outcome, "a")
+        library.drop("c")
+        self.assertRaises(NotWhole, library.outcome, "a")
+
+    def test_others_that_are_too_great(self):
+        library, name = self.doubled(60, 601)
+        library.define("twice", ("@", "@", "two", "one", "one"))
+        library.define("a", ("twice",))
+        self.assertEqual(library.linked("a"), ("@", "@", "two", "one", "one"))
+        self.assertEqual(library.outcome("a"), ("two", "one", "one"))
+        self.assertRaises(TooMany, library.linked, name)
 
     def test_just_20000_moves(self):
         for wanted in (19999, 20000, 20001):

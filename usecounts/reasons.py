@@ -13,7 +13,8 @@ def reason(shelf, name):
     if row:
         return ("ring", row)
     for other in sorted(set(led_to + [name])):
-        if shelf.is_definition(other) and shelf.kind(other) is None and shelf.is_ready(other):
+        # Only definitions have no kind.
+        if shelf.kind(other) is None and shelf.is_ready(other):
             return ("fault", other, shelf.judged(other).fault)
     return None
 

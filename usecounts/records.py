@@ -44,12 +44,9 @@ def _read_more(words):
     """The lot with makers that are written so, if these are just what its attribute would be."""
     if not all([_is_recorded_maker(word) for word in words]):
         raise BadText(0)
-    makers = [int(word) for word in words]
-    # Looked at ahead of the sums, which are told of any makers.
-    if makers != sorted(set(makers)):
-        raise BadText(0)
+    makers = tuple([int(word) for word in words])
     lot = lot_of_makers(makers)
-    if lot.makers != tuple(makers):
+    if lot.makers != makers:
         raise BadText(0)
     return lot
 
