@@ -4,11 +4,11 @@ import itertools
 import random
 import unittest
 
-from usecounts.errors import NoKind, NotLet
+from usecounts.errors import NoKind, NotLet, TooMany
 from usecounts.finding import found, is_equal_help, is_paper, needless
 from usecounts.houses import House, is_against, lean
 from usecounts.judging import Book, fault, kind_of
-from usecounts.kinds import built
+from usecounts.kinds import built, is_kind
 from usecounts.lots import Lot, RawLot, common
 from usecounts.plains import many_plain
 from usecounts.programs import is_program
@@ -47,7 +47,8 @@ class FoundTest(unittest.TestCase):
         if word is not None:
             self.assertEqual(row[0], word)
         if row[0] == "made":
-            self.assertTrue(is_program(row[1]))
+            self.assertTrue(is_program(row[1]) or not is_kind(kind))
+            self.assertLessEqual(len(row[1]), 400)
             self.assertIsNone(fault(book, (), row[1]))
             self.assertEqual(kind_of(book, (), row[1]), kind)
             self.assertTrue(is_plain(book, (), row[1]))
@@ -143,9 +144,38 @@ class FoundTest(unittest.TestCase):
         rows = tuple(("g" + letter, (at, at + 1)) for at, letter in enumerate("abc"))
         row = self.told(Book(FREE, rows + (("f", (built((7,) * 50, 2), 3)), ("z", 0))), 3, "made")
         self.assertEqual(row[1], ("@", "gc", "@", "gb", "@", "ga", "z"))
-        # Each of 7 uses takes 57 names; z stands behind as many uses of the other way.
-        deep = (("f", (built((9,) * 57, 0), 0)), ("z", 1), ("g", (1, 2)), ("h", (2, 0)))
-        self.told(Book(FREE, deep), 0, "made")
+
+    def wide_task(self, rows):
+        """A kind that is made from a by a name for each row: it turns a letter behind as many takes into the next letter."""
+        names = [(built((9,) * many, at), at + 1) for at, row in enumerate(rows) for many in row]
+        return built(tuple(names) + (0,), len(rows))
+
+    def test_just_400_words(self):
+        # Names are taken, 7 of them are handed the next one, and each but the first takes some more.
+        for many, told in ((50, 380), (52, 394), (53, 400)):
+            rows = [[many, many + 20]] * 7 if many < 53 else [[54, 71], [52, 60]] + [[53, 90]] * 4 + [[50, 49, 91]]
+            book, kind = Book(FREE, ()), self.wide_task(rows)
+            row = self.told(book, kind, "made")
+            least = sum(min(row) for row in rows)
+            self.assertEqual(len(row[1]), sum(map(len, rows)) + 1 + 15 + least)
+            self.assertEqual(many_plain(book, kind, 8), 2 ** 6 * (2 if many < 53 else 3))
+        kind = self.wide_task([[53, 60]] * 6 + [[52, 99]])
+        self.assertEqual(len(self.told(Book(FREE, ()), kind, "made")[1]), 15 + 15 + 370)
+        self.assertEqual(len(self.told(Book(FREE, ()), kind, "made")[1]), 400)
+
+    def test_few_words_with_more_names(self):
+        # The way with 3 names has 401 words, and those with more names have fewer.
+        book = Book(FREE, ())
+        for many, names in ((388, 3), (389, 6)):
+            kind = built(((built((9,) * many, 1), 3), (0, 1), (1, 2), (2, 4), (4, 5), (5, 3), 0), 3)
+            row = self.told(book, kind, "made")
+            self.assertEqual(sum(isinstance(word, str) and word != "@" for word in row[1]), names)
+            self.assertEqual(len(row[1]), many + 7 + 5 if names == 3 else 7 + 6 + 5)
+
+    def test_too_great_a_house(self):
+        with self.assertRaises(TooMany) as caught:
+            found(Book(FREE, ()), built((0, 1, 2, 3, 4, 5, 6, 7), 8))
+        self.assertEqual(caught.exception.most, 200)
 
     def test_a_house_of_size_3_with_nearly_200_stands(self):
         kind = built((built((0, 0), 1),) + (0,) * 13, 1)

@@ -34,6 +34,11 @@ def ladder(many):
     return table(many, lambda u, v: min(u + v, many - 1))
 
 
+def counted(tail, many):
+    """Numbers up to a last row that goes round about."""
+    return table(tail + many, lambda u, v: u + v if u + v < tail else tail + (u + v - tail) % many)
+
+
 def greater(many):
     return table(many, max)
 
@@ -55,9 +60,9 @@ def shuffled(joining, chance):
 
 
 def some_joinings(chance):
-    rows = [ring(1), ring(2), ring(3), ring(6), ladder(2), ladder(4), ladder(5), greater(3), greater(6), paired(ring(2), ladder(3)),
+    rows = [counted(2, 3), counted(3, 4), counted(1, 5), paired(counted(2, 2), ring(2)), ring(1), ring(2), ring(3), ring(6), ladder(2), ladder(4), ladder(5), greater(3), greater(6), paired(ring(2), ladder(3)),
             paired(ring(2), ring(2)), paired(greater(2), ring(3)), paired(paired(ring(2), greater(2)), ladder(3))]
-    return rows + [shuffled(joining, chance) for joining in rows[3:]]
+    return rows + [shuffled(joining, chance) for joining in rows]
 
 
 def times(joining, stand, many):
@@ -141,6 +146,9 @@ class HouseTest(unittest.TestCase):
         house = House(ODD, ring(2), {0: (1,), 1: (0,), 4: ()})
         self.assertTrue(house == House(Lot("more", (4, 2)), ring(2), {1: (0,), 0: (1,)}))
         self.assertFalse(house != House(Lot("more", (4, 2)), ring(2), {1: (0,), 0: (1,)}))
+        self.assertTrue(House(THIRD, ring(2), {}) != House(ODD, ring(2), {}))
+        self.assertTrue(House(ODD, ladder(2), {}) != House(ODD, ring(2), {}))
+        self.assertTrue(House(ODD, ring(2), {}) == House(ODD, ring(2), {5: ()}))
         for other in (House(THIRD, ring(2), {}), House(ODD, ring(2), {0: (1,)}), House(ODD, ladder(2), {0: (0, 1), 1: (0, 1)}),
                       House(ODD, ring(2), {0: (1,), 1: (0, 1)}), House(ODD, ring(2), {0: (1,), 2: (0,)}), House(ODD, ring(1), {0: (0,)})):
             self.assertTrue(house != other)
@@ -278,6 +286,10 @@ class HouseTest(unittest.TestCase):
         self.assertEqual(House(lot, ring(4), {0: (1,)}).letters, {0: (1,)})
         self.assertEqual(House(lot, ring(12), {0: (1, 5)}).letters, {0: (1, 5)})
         self.refused("laid", lot, ring(5), {0: (1,)})
+        # 133 times 1 is 1 round about 4, behind 3 that do not come again: 5.
+        self.refused("laid", lot, counted(3, 4), {0: (5,)})
+        self.assertEqual(House(lot, counted(3, 4), {0: (1, 5)}).letters, {0: (1, 5)})
+        self.refused("laid", lot, counted(3, 5), {0: (5,)})
         self.refused("laid", lot, ladder(4), {0: (3,)})
 
 

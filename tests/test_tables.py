@@ -186,7 +186,9 @@ class BagHouseTest(unittest.TestCase):
             self.assertEqual([len(bag_house(Book(lot, ()), (0, 1), size).joining) for size in range(1, 7)], told)
 
     def test_once(self):
-        kinds = [0, 25, (0, 0), (0, (0, 0)), K, ((0, 0), 0), ((0, 1), (0, 1)), ((0, (1, 2)), (0, (1, 2))), (((0, 0), 0), 0), ((0, 1), ((1, 2), (0, 2)))]
+        # The thing in it weighs more than all that stands as it is.
+        heavy = ((((built((0, 0, 0, 0), 1), 1), 2), 3), 4)
+        kinds = [heavy, (0, heavy), ((heavy, 0), 1), 0, 25, (0, 0), (0, (0, 0)), K, ((0, 0), 0), ((0, 1), (0, 1)), ((0, (1, 2)), (0, (1, 2))), (((0, 0), 0), 0), ((0, 1), ((1, 2), (0, 2)))]
         chance = random.Random(83)
         kinds += [some_kind(chance, chance.randrange(1, 8)) for _ in range(60)]
         for kind in kinds:
@@ -232,6 +234,15 @@ class BagHouseTest(unittest.TestCase):
                     elif stands < 70 or size > 4:
                         self.assertEqual(len(bag_house(Book(lot, ()), kind_with(many), size).joining), stands)
         self.assertRaises(TooMany, bag_house, Book(FREE, ()), built(tuple(nested(n, lambda k: (0, k), 0) for n in range(1, 30)), 0), 1)
+
+    def test_just_200_stands(self):
+        lot = common(Lot("more", (11,)), common(Lot("more", (9,)), Lot("more", (2,))))
+        self.assertEqual(lot.makers, (198,))
+        self.assertEqual(len(bag_house(Book(lot, ()), (0, 0), 1).joining), 199)
+        self.assertEqual(len(bag_house(Book(lot, ()), (0, 0), 2).joining), 200)
+        with self.assertRaises(TooMany) as caught:
+            bag_house(Book(lot, ()), (0, 0), 3)
+        self.assertEqual(caught.exception.most, 200)
 
     def test_great_makers(self):
         lot = common(Lot("more", (11,)), Lot("more", (12,)))

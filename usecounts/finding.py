@@ -59,7 +59,7 @@ def _program_of(plains, most_names):
 def is_paper(book, kind, thing):
     """Whether a thing is such a pair as found tells."""
     task = Task(book, kind)
-    if not is_pair(thing) or not isinstance(thing[0], str):
+    if not is_pair(thing):
         return False
     if thing[0] == "not":
         return is_against_task(task, thing[1])

@@ -35,56 +35,42 @@ def _is_without_brackets(joining):
     return True
 
 
-def multiples(joining, lot, stand):
-    """The list of what comes of a stand that is joined with itself as often as the lot holds, each once."""
-    if lot.word == "once":
-        return [stand]
-    row, start = _times(joining, stand)
-    if lot.word == "loan":
-        return row[:2]
-    if lot.word == "free":
-        return row
-    jumps = {_at_time(row, start, maker): True for maker in lot.makers}
-    found = {stand: True}
-    waiting = [stand]
-    while waiting:
-        at = waiting.pop()
-        for jump in jumps:
-            behind = joining[at][jump]
-            if behind not in found:
-                found[behind] = True
-                waiting.append(behind)
-    return list(found)
-
-
-def _times(joining, stand):
-    """A stand joined with itself 0, 1, 2 .. times, each once, and the place from which these come round again."""
-    row = []
-    places = {}
-    at = 0
-    while at not in places:
-        places[at] = len(row)
-        row.append(at)
-        at = joining[at][stand]
-    return (row, places[at])
-
-
-def _at_time(row, start, number):
-    if number < len(row):
-        return row[number]
-    return row[start + (number - start) % (len(row) - start)]
-
-
 def falls(joining, lot):
-    """For each stand the mask of the stands that must have all that it has.
+    """For each stand the mask of stands that must have what it has; what these have, others must have in turn.
 
     A mask has, for each stand in it, the bit at this place.
     """
     found = [0] * len(joining)
+    numbers = _enough_numbers(lot)
     for v in range(len(joining)):
-        for many in multiples(joining, lot, v):
+        multiples = {_times(joining, v, number): True for number in numbers}
+        for many in multiples:
             for row in joining:
                 found[row[many]] |= 1 << row[v]
+    return found
+
+
+def _enough_numbers(lot):
+    """Numbers that the lot holds, from which all others come in turn.
+
+    With 3 falls u and 5 times v, which is (u and twice v) and 3 times v, to u
+    and 3 times v, and this to u and v: so 5 need not be among them.
+    """
+    if lot.word == "loan":
+        return [0]
+    if lot.word == "free":
+        return [0, 2]
+    return [maker + 1 for maker in lot.makers]
+
+
+def _times(joining, stand, number):
+    """A stand joined with itself so often."""
+    found = 0
+    while number > 0:
+        if number % 2 == 1:
+            found = joining[found][stand]
+        stand = joining[stand][stand]
+        number = number // 2
     return found
 
 

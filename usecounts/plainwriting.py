@@ -24,8 +24,10 @@ class PlainWriting:
         self._written = {}
 
     def programs(self, names):
-        """The list of the programs of the task with so many names, standard; each once."""
-        self._plains.closed(names)
+        """The list of the programs of the task with so many names, standard, each once.
+
+        The tables have been grown to so many names.
+        """
         if 0 not in self._plains.made[self._plains.wanted][names]:
             return []
         return [self._program_of(words) for words in self._openings(self._plains.wanted, names, 0)]
