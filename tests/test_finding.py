@@ -37,6 +37,13 @@ def is_passed(book, kind):
     return any(many_plain(book, kind, names) for names in range(1, 9))
 
 
+def relettered_wide(kind, wide, wider):
+    """The kind with another kind in the place of one that stands in it."""
+    if kind == wide:
+        return wider
+    return (relettered_wide(kind[0], wide, wider), relettered_wide(kind[1], wide, wider)) if isinstance(kind, tuple) else kind
+
+
 class FoundTest(unittest.TestCase):
 
     def told(self, book, kind, word=None):
@@ -171,6 +178,21 @@ class FoundTest(unittest.TestCase):
             row = self.told(book, kind, "made")
             self.assertEqual(sum(isinstance(word, str) and word != "@" for word in row[1]), names)
             self.assertEqual(len(row[1]), many + 7 + 5 if names == 3 else 7 + 6 + 5)
+
+    def test_few_words_of_all_that_are_handed(self):
+        # h is handed an a and a c: both with few words, or both with many, of 2 and 3 names or of 3 and 2.
+        a, b, c, d, e, p = range(6)
+        wide = built((9,) * 200, b)
+        few, many = ((b, a), (b, d), (d, c)), ((wide, e), (e, a), (wide, c))
+        for names in ((few + many), (many + few), (many[:2] + few + many[2:])):
+            for head in ((a, (c, p)), (c, (a, p))):
+                kind = built(names + (head, b), p)
+                row = self.told(Book(FREE, ()), kind, "made")
+                # That with few and many words of 2 names each has one name less.
+                self.assertEqual(len(row[1]), 8 + 9 + 200)
+                wider = built((9,) * 400, b)
+                kind = relettered_wide(kind, wide, wider)
+                self.assertEqual(len(self.told(Book(FREE, ()), kind, "made")[1]), 8 + 11)
 
     def test_too_great_a_house(self):
         with self.assertRaises(TooMany) as caught:

@@ -188,7 +188,8 @@ class BagHouseTest(unittest.TestCase):
     def test_once(self):
         # The thing in it weighs more than all that stands as it is.
         heavy = ((((built((0, 0, 0, 0), 1), 1), 2), 3), 4)
-        kinds = [heavy, (0, heavy), ((heavy, 0), 1), 0, 25, (0, 0), (0, (0, 0)), K, ((0, 0), 0), ((0, 1), (0, 1)), ((0, (1, 2)), (0, (1, 2))), (((0, 0), 0), 0), ((0, 1), ((1, 2), (0, 2)))]
+        # The last one of the things weighs 2.
+        kinds = [((1, ((0, 0), 0)), 2), (0, ((1, ((0, 0), 0)), 2)), (0, (0, ((1, ((0, 0), 0)), 2))), heavy, (0, heavy), ((heavy, 0), 1), heavy[0], (0, heavy[0]), (heavy[0][0], 0), 0, 25, (0, 0), (0, (0, 0)), K, ((0, 0), 0), ((0, 1), (0, 1)), ((0, (1, 2)), (0, (1, 2))), (((0, 0), 0), 0), ((0, 1), ((1, 2), (0, 2)))]
         chance = random.Random(83)
         kinds += [some_kind(chance, chance.randrange(1, 8)) for _ in range(60)]
         for kind in kinds:
