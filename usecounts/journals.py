@@ -1,6 +1,6 @@
 """Libraries that are recovered from their journals, wherever these were cut."""
 
-from usecounts.errors import BadText, CountsError, NoText
+from usecounts.errors import CountsError, NoText
 from usecounts.library import Library
 from usecounts.reading import kind_of_text, program_of_text
 from usecounts.records import read_lot, told_by
@@ -27,10 +27,10 @@ def _first_library(lines):
     word, rest = _parted(told_by(lines[0]))
     if word != "relot" or rest is None:
         raise NoText()
-    try:
-        return Library(read_lot(rest))
-    except BadText:
+    lot = read_lot(rest)
+    if lot is None:
         raise NoText()
+    return Library(lot)
 
 
 def _parted(told):
@@ -75,6 +75,7 @@ def _is_edited(library, word, rest):
     elif word == "drop":
         library.drop(rest)
     elif word == "relot":
+        # What is no lot is refused by the library.
         library.relot(read_lot(rest))
     else:
         return False

@@ -1,6 +1,5 @@
 """The records of a journal: lines with checks."""
 
-from usecounts.errors import BadText
 from usecounts.lots import Lot, lot_of_makers
 
 BEHIND = 9973
@@ -31,23 +30,23 @@ def lot_text(lot):
 
 
 def read_lot(text):
-    """The lot with this text: BadText."""
+    """The lot with this text; None if there is none."""
     words = text.split(" ")
     if words[0] == "more" and len(words) > 1:
         return _read_more(words[1:])
     if len(words) > 1 or words[0] not in ("once", "loan", "free"):
-        raise BadText(0)
+        return None
     return Lot(words[0], ())
 
 
 def _read_more(words):
-    """The lot with makers that are written so, if these are just what its attribute would be."""
+    """The lot with makers that are written so, if these are just what its attribute would be; or None."""
     if not all([_is_recorded_maker(word) for word in words]):
-        raise BadText(0)
+        return None
     makers = tuple([int(word) for word in words])
     lot = lot_of_makers(makers)
     if lot.makers != makers:
-        raise BadText(0)
+        return None
     return lot
 
 
