@@ -61,6 +61,14 @@ def _counted(lot, size, step, number):
     return size + (number - size) % step
 
 
+def _stands_without(joining, unit):
+    """For each stand the list of those that, joined with the unit, are this stand."""
+    found = [[] for _ in joining]
+    for stand, row in enumerate(joining):
+        found[row[unit]].append(stand)
+    return found
+
+
 class BagTable:
     """The least table of pairs of a stand and a part that it has.
 
@@ -71,8 +79,7 @@ class BagTable:
         self._table = task.table
         self._joining = joining
         self._below = [stands_of(mask) for mask in falls(joining, task.lot)]
-        self.stands = {part: {} for part in task.parts}
-        self._waiting = []
+        self._without = {thing: _stands_without(joining, units[thing]) for thing in units}
         # The pairs that have a part as their left, and as their right.
         self._lefts = {part: [] for part in task.parts}
         self._rights = {part: [] for part in task.parts}
@@ -80,11 +87,8 @@ class BagTable:
             if task.table.is_pair_number(part):
                 self._lefts[task.table.left(part)].append(part)
                 self._rights[task.table.right(part)].append(part)
-        # For each thing and stand those that, joined with the thing alone, are this stand.
-        self._without = {thing: [[] for _ in joining] for thing in units}
-        for thing in units:
-            for stand, row in enumerate(joining):
-                self._without[thing][row[units[thing]]].append(stand)
+        self.stands = {part: {} for part in task.parts}
+        self._waiting = []
         for thing in units:
             self._add(units[thing], thing)
         for _, number in task.tools:
